@@ -79,12 +79,17 @@ func (m *memory) place(v reflect.Value, width int, fill func(reflect.Value)) ref
 	made := reflect.New(v.Type()).Elem()
 	switch v.Kind() {
 	case reflect.Slice:
-		whole := reflect.MakeSlice(v.Type(), v.Len()+2*width, v.Len()+2*width)
-		for k := range width {
-			fill(whole.Index(k))
-			fill(whole.Index(width + v.Len() + k))
+		// Lists of lists are costly to fill, and whoever reads or writes beside them begins with the nearest.
+		beside := width
+		if !holdsNoList(v.Type().Elem()) {
+			beside = min(width, 10)
 		}
-		made.Set(whole.Slice(width, width+v.Len()))
+		whole := reflect.MakeSlice(v.Type(), v.Len()+2*beside, v.Len()+2*beside)
+		for k := range beside {
+			fill(whole.Index(k))
+			fill(whole.Index(beside + v.Len() + k))
+		}
+		made.Set(whole.Slice(beside, beside+v.Len()))
 		if holdsNoList(v.Type().Elem()) {
 			reflect.Copy(made, v)
 		} else {
