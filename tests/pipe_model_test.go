@@ -197,7 +197,12 @@ func modelRunOut(g []impl.Node, moves []impl.Move) (impl.Pipe, int, bool) {
 	if !ok {
 		return impl.Pipe{}, 0, false
 	}
-	order, _ := modelOrderOf(g)
+	steps := p.runOut()
+	return p.pipe(), steps, true
+}
+
+func (p *modelPipe) runOut() int {
+	order, _ := modelOrderOf(p.g)
 	slices.Reverse(order)
 	p.closed = true
 	steps := 0
@@ -205,7 +210,7 @@ func modelRunOut(g []impl.Node, moves []impl.Move) (impl.Pipe, int, bool) {
 		may := func(node int) bool { return p.code(impl.Move{Kind: impl.MoveStep, Node: node}) == impl.PipeOk }
 		p.step(order[slices.IndexFunc(order, may)])
 	}
-	return p.pipe(), steps, true
+	return steps
 }
 
 // modelOffered are those that count, in order: an item's number is its place there.
